@@ -1,0 +1,31 @@
+// Package copies copies values of the types of package api, such that a copy shares no memory with its original.
+package copies
+
+import (
+	"slices"
+
+	"disjoint/api"
+)
+
+// List returns the copies of the elements of a list.
+func List[T any](l []T, element func(T) T) []T {
+	if l == nil {
+		return nil
+	}
+	r := make([]T, len(l))
+	for i, x := range l {
+		r[i] = element(x)
+	}
+	return r
+}
+
+// Lists returns copies of lists whose elements contain no lists.
+func Lists[T any, L ~[]T](l []L) []L {
+	return List(l, slices.Clone[L])
+}
+
+// Expr returns a copy of an expression.
+func Expr(e api.Expr) api.Expr {
+	e.Args = List(e.Args, Expr)
+	return e
+}
