@@ -7,12 +7,12 @@ import (
 	"disjoint/api"
 )
 
-// List returns the copies of the elements of a list.
-func List[T any](l []T, element func(T) T) []T {
+// List returns what element returns for the elements of a list: copies of them, or something else.
+func List[T, U any](l []T, element func(T) U) []U {
 	if l == nil {
 		return nil
 	}
-	r := make([]T, len(l))
+	r := make([]U, len(l))
 	for i, x := range l {
 		r[i] = element(x)
 	}
