@@ -29,3 +29,15 @@ func Expr(e api.Expr) api.Expr {
 	e.Args = List(e.Args, Expr)
 	return e
 }
+
+// Term returns a copy of a term.
+func Term(t api.Term) api.Term {
+	t.Parts = List(t.Parts, Part)
+	return t
+}
+
+// Part returns a copy of a part of a term.
+func Part(p api.Part) api.Part {
+	p.Of = List(p.Of, Term)
+	return p
+}
