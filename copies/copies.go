@@ -41,3 +41,53 @@ func Part(p api.Part) api.Part {
 	p.Of = List(p.Of, Term)
 	return p
 }
+
+// Statement returns a copy of a statement.
+func Statement(s api.Statement) api.Statement {
+	s.Create = api.Definition{
+		Columns: slices.Clone(s.Create.Columns),
+		Keys:    Lists(s.Create.Keys),
+		Foreign: List(s.Create.Foreign, reference),
+		Checks:  List(s.Create.Checks, Expr),
+	}
+	s.Values = List(s.Values, exprs)
+	s.Sets = List(s.Sets, assignment)
+	s.Items = List(s.Items, item)
+	s.From = slices.Clone(s.From)
+	s.Where = Expr(s.Where)
+	s.Group = exprs(s.Group)
+	s.Order = slices.Clone(s.Order)
+	return s
+}
+
+func exprs(l []api.Expr) []api.Expr { return List(l, Expr) }
+
+func reference(r api.Reference) api.Reference {
+	r.Columns = slices.Clone(r.Columns)
+	r.Target = slices.Clone(r.Target)
+	return r
+}
+
+func assignment(a api.Assignment) api.Assignment {
+	a.Expr = Expr(a.Expr)
+	return a
+}
+
+func item(i api.Item) api.Item {
+	i.Expr = Expr(i.Expr)
+	return i
+}
+
+// Table returns a copy of a table of a schema.
+func Table(t api.Table) api.Table {
+	t.Columns = slices.Clone(t.Columns)
+	t.Keys = Lists(t.Keys)
+	t.Foreign = List(t.Foreign, foreign)
+	t.Checks = exprs(t.Checks)
+	return t
+}
+
+func foreign(f api.Foreign) api.Foreign {
+	f.Columns = slices.Clone(f.Columns)
+	return f
+}
