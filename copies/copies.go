@@ -91,3 +91,16 @@ func foreign(f api.Foreign) api.Foreign {
 	f.Columns = slices.Clone(f.Columns)
 	return f
 }
+
+// Atom returns a copy of an atom.
+func Atom(a api.Atom) api.Atom {
+	a.Term = Term(a.Term)
+	return a
+}
+
+// Formula returns a copy of a formula.
+func Formula(f api.Formula) api.Formula {
+	f.Atom = Atom(f.Atom)
+	f.Args = List(f.Args, Formula)
+	return f
+}
