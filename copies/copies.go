@@ -104,3 +104,32 @@ func Formula(f api.Formula) api.Formula {
 	f.Args = List(f.Args, Formula)
 	return f
 }
+
+// Clause returns a copy of a clause.
+func Clause(c api.Clause) api.Clause {
+	return api.Clause{
+		Null:      slices.Clone(c.Null),
+		NotNull:   slices.Clone(c.NotNull),
+		Auxiliary: List(c.Auxiliary, auxiliary),
+		Ints:      List(c.Ints, constraint),
+		Tests:     slices.Clone(c.Tests),
+		Same:      slices.Clone(c.Same),
+		Different: slices.Clone(c.Different),
+	}
+}
+
+func auxiliary(a api.Auxiliary) api.Auxiliary {
+	a.Of = Linear(a.Of)
+	return a
+}
+
+func constraint(c api.Constraint) api.Constraint {
+	c.Linear = Linear(c.Linear)
+	return c
+}
+
+// Linear returns a copy of a linear form.
+func Linear(f api.Linear) api.Linear {
+	f.Coefs = slices.Clone(f.Coefs)
+	return f
+}
