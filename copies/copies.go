@@ -133,3 +133,18 @@ func Linear(f api.Linear) api.Linear {
 	f.Coefs = slices.Clone(f.Coefs)
 	return f
 }
+
+// Predicate returns a copy of a predicate.
+func Predicate(p api.Predicate) api.Predicate {
+	p.Variables = slices.Clone(p.Variables)
+	p.Clauses = List(p.Clauses, Clause)
+	return p
+}
+
+// Accesses returns a copy of a list of accesses.
+func Accesses(l []api.Access) []api.Access {
+	return List(l, func(a api.Access) api.Access {
+		a.Predicate = Predicate(a.Predicate)
+		return a
+	})
+}
