@@ -148,3 +148,9 @@ func Accesses(l []api.Access) []api.Access {
 		return a
 	})
 }
+
+// Change returns a copy of a change.
+func Change(c api.Change) api.Change {
+	c.Old, c.New = slices.Clone(c.Old), slices.Clone(c.New)
+	return c
+}
