@@ -2,7 +2,6 @@ package ast
 
 import (
 	"reflect"
-	"strings"
 	"testing"
 
 	"disjoint/api"
@@ -240,7 +239,7 @@ func TestIndexMakesNoDifference(t *testing.T) {
 	if text, err := Format(s); text != "UPDATE t SET a = 1" || err != api.OK {
 		t.Errorf("Format = %q, %d", text, err)
 	}
-	if Nodes(e) != 3 || strings.Contains("", "x") {
+	if Nodes(e) != 3 {
 		t.Error("Nodes")
 	}
 }
