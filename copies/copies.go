@@ -154,3 +154,12 @@ func Change(c api.Change) api.Change {
 	c.Old, c.New = slices.Clone(c.Old), slices.Clone(c.New)
 	return c
 }
+
+// Plan returns a copy of a plan.
+func Plan(p api.Plan) api.Plan {
+	p.Columns = slices.Clone(p.Columns)
+	p.Keys = exprs(p.Keys)
+	p.Filter = Expr(p.Filter)
+	p.Args = List(p.Args, Plan)
+	return p
+}
