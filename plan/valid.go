@@ -4,6 +4,7 @@ import (
 	"slices"
 
 	"disjoint/api"
+	"disjoint/conjunct"
 )
 
 // Valid reports whether a plan finds exactly the combinations for which the condition of a statement is True.
@@ -35,20 +36,20 @@ func (v *validator) examine(p api.Plan) bool {
 		return v.filter(p.Filter)
 	case api.PlanLookup:
 		for i, c := range p.Columns {
-			if !v.given(v.variable(p, c), p.Keys[i], givesKey) {
+			if !v.given(v.variable(p, c), p.Keys[i], conjunct.Key) {
 				return false
 			}
 		}
 	case api.PlanRange:
 		c := v.variable(p, p.Columns[0])
-		return (absent(p.Keys[0]) || v.given(c, p.Keys[0], givesLower)) && (absent(p.Keys[1]) || v.given(c, p.Keys[1], givesUpper))
+		return (absent(p.Keys[0]) || v.given(c, p.Keys[0], conjunct.Lower)) && (absent(p.Keys[1]) || v.given(c, p.Keys[1], conjunct.Upper))
 	}
 	return true
 }
 
 // variable returns the number of the variable of a column of a plan's source.
 func (v *validator) variable(p api.Plan, column int) int {
-	return v.firstVariable(p.Source) + column
+	return conjunct.FirstVariable(v.s, v.b, p.Source) + column
 }
 
 // filter examines the conjuncts of a filter.
@@ -68,54 +69,14 @@ func (v *validator) filter(e api.Expr) bool {
 }
 
 // given reports whether some conjunct gives a key or a bound for a variable, and notes those that do so exactly.
-func (v *validator) given(variable int, key api.Expr, gives func(op int) (given, exactly bool)) bool {
+func (v *validator) given(variable int, key api.Expr, role conjunct.Role) bool {
 	found := false
 	for i, w := range v.where {
-		for _, c := range sides(w) {
-			given, exactly := gives(c.op)
-			if given && c.left.Op == api.OpColumn && c.left.Index == variable && equal(c.right, key) {
-				found = true
-				v.used[i] = v.used[i] || exactly
-			}
+		l, exactly := conjunct.Given(w, variable, role)
+		if slices.ContainsFunc(l, func(e api.Expr) bool { return equal(e, key) }) {
+			found = true
+			v.used[i] = v.used[i] || exactly
 		}
 	}
 	return found
-}
-
-// comparison is a comparison of two expressions.
-type comparison struct {
-	op          int
-	left, right api.Expr
-}
-
-// sides returns a comparison, and the same one with its sides exchanged; none for any other condition.
-func sides(e api.Expr) []comparison {
-	if len(e.Args) != 2 {
-		return nil
-	}
-	reversed := e.Op
-	switch e.Op {
-	case api.OpEq:
-	case api.OpLt:
-		reversed = api.OpGt
-	case api.OpLe:
-		reversed = api.OpGe
-	case api.OpGt:
-		reversed = api.OpLt
-	case api.OpGe:
-		reversed = api.OpLe
-	default:
-		return nil
-	}
-	return []comparison{{e.Op, e.Args[0], e.Args[1]}, {reversed, e.Args[1], e.Args[0]}}
-}
-
-func givesKey(op int) (given, exactly bool) { return op == api.OpEq, true }
-
-func givesLower(op int) (given, exactly bool) {
-	return op == api.OpGe || op == api.OpGt, op == api.OpGe
-}
-
-func givesUpper(op int) (given, exactly bool) {
-	return op == api.OpLe || op == api.OpLt, op == api.OpLe
 }
