@@ -155,6 +155,16 @@ func Change(c api.Change) api.Change {
 	return c
 }
 
+// Event returns a copy of an event.
+func Event(e api.Event) api.Event {
+	e.Rows = Lists(e.Rows)
+	e.Waits = List(e.Waits, func(w api.Wait) api.Wait {
+		w.Row = slices.Clone(w.Row)
+		return w
+	})
+	return e
+}
+
 // Plan returns a copy of a plan.
 func Plan(p api.Plan) api.Plan {
 	p.Columns = slices.Clone(p.Columns)
