@@ -442,3 +442,49 @@ func TestStateIsKept(t *testing.T) {
 		t.Error("the state is changed")
 	}
 }
+
+// TestSize checks that the length of the state is known after each commit.
+func TestSize(t *testing.T) {
+	r := rand.New(rand.NewSource(97))
+	x := open(t, formatted(t, 400))
+	rows := map[int64]api.Row{}
+	full := 0
+	for txn := int64(1); txn <= 600; txn++ {
+		after := map[int64]api.Row{}
+		for id, row := range rows {
+			after[id] = row
+		}
+		var l []api.Change
+		for range 1 + r.Intn(3) {
+			c := api.Change{ID: 1 + r.Int63n(60)}
+			c.Old = after[c.ID]
+			if c.Old == nil || r.Intn(3) > 0 {
+				c.New = api.Row{value.Text("abcdefghijklmnop"[:r.Intn(17)])}
+			}
+			if after[c.ID] = c.New; c.New == nil {
+				delete(after, c.ID)
+			}
+			l = append(l, c)
+		}
+		switch e := x.Commit(r.Intn(8), txn, l); e {
+		case api.OK:
+			rows = after
+		case api.ErrFull:
+			full++
+			if e := x.Checkpoint(); e != api.OK {
+				t.Fatal(e)
+			}
+		default:
+			t.Fatalf("%v: %d", l, e)
+		}
+		if x.size != len(x.state.bytes()) || x.state.store.Table(0).Len() != len(rows) {
+			t.Fatalf("%d bytes instead of %d, %d rows instead of %d", x.size, len(x.state.bytes()), x.state.store.Table(0).Len(), len(rows))
+		}
+		if r.Intn(50) == 0 {
+			x = open(t, x.d)
+		}
+	}
+	if full == 0 || len(rows) == 0 {
+		t.Errorf("%d times full, %d rows", full, len(rows))
+	}
+}

@@ -42,9 +42,9 @@ type waits struct {
 	footprints []map[int][]api.Access
 }
 
-// execute executes statements in a transaction on a store.
-func (w *waits) execute(st *store.Store, l []api.Statement) *transaction.Transaction {
-	t := transaction.Begin(0, w.schema, st)
+// execute executes statements in a transaction on the committed store.
+func (w *waits) execute(l []api.Statement) *transaction.Transaction {
+	t := transaction.Begin(0, w.schema, w.committed)
 	for _, statement := range l {
 		if b, err := binder.Bind(w.schema, statement); err == api.OK {
 			// Other statements, and those that fail, have no effect.
@@ -57,7 +57,7 @@ func (w *waits) execute(st *store.Store, l []api.Statement) *transaction.Transac
 // commit executes the transaction of a session on the committed store.
 func (w *waits) commit(c *client) {
 	l, _ := c.statements()
-	t := w.execute(w.committed, l)
+	t := w.execute(l)
 	if _, err := t.Commit(); err != api.OK {
 		t.Rollback()
 	}
@@ -85,7 +85,9 @@ func (w *waits) statement(number int, c *client, position int) []api.Access {
 // request returns the accesses that the next step of a session needs.
 func (w *waits) request(number int, c *client) []api.Access {
 	if c.atCommit() {
-		attempt := w.execute(w.committed.Copy(), c.executed())
+		// The attempt is rolled back, so that no copy of the store is needed.
+		attempt := w.execute(c.executed())
+		defer attempt.Rollback()
 		return footprint.Constraints(w.schema, attempt.Net())
 	}
 	position, _ := c.session.Next()
