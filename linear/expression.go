@@ -4,7 +4,7 @@ import "disjoint/api"
 
 // Of returns the term of an integer expression.
 func Of(e api.Expr) (api.Term, api.Errno) {
-	if e.Op == api.OpLength && len(e.Args) == 1 && e.Args[0].Op == api.OpLiteral && e.Args[0].Value.Kind == api.Text {
+	if e.Op == api.OpLength && len(e.Args) == 1 && isText(e.Args[0]) {
 		// The only operand that is not an integer expression.
 		return api.Term{Const: int64(len(e.Args[0].Value.Text))}, api.OK
 	}
@@ -25,6 +25,11 @@ func Of(e api.Expr) (api.Term, api.Errno) {
 		return binary(e.Op, terms[0], terms[1])
 	}
 	return api.Term{}, api.ErrType
+}
+
+// isText reports whether e is a literal text; with operands it would be none.
+func isText(e api.Expr) bool {
+	return e.Op == api.OpLiteral && e.Value.Kind == api.Text && len(e.Args) == 0
 }
 
 func leaf(e api.Expr) (api.Term, api.Errno) {

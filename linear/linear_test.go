@@ -97,6 +97,37 @@ func TestErrors(t *testing.T) {
 	}
 }
 
+// A literal has no operands, wherever it occurs; the errors of its operands precede its own.
+func TestLiteralsWithOperands(t *testing.T) {
+	null := api.Expr{Op: api.OpLiteral}
+	with := func(e api.Expr, args ...api.Expr) api.Expr {
+		e.Args = args
+		return e
+	}
+	operands := []struct {
+		args []api.Expr
+		want api.Errno
+	}{
+		{[]api.Expr{num(1)}, api.ErrType}, {[]api.Expr{x(0)}, api.ErrType}, {[]api.Expr{str("b")}, api.ErrType}, {[]api.Expr{null}, api.ErrType}, {[]api.Expr{num(1), num(2)}, api.ErrType}, {[]api.Expr{x(0), x(1), x(2)}, api.ErrType},
+		{[]api.Expr{op(api.OpMul, x(0), x(1))}, api.ErrUnsupported}, {[]api.Expr{num(1 << 41)}, api.ErrTooLarge}, {[]api.Expr{num(1), op(api.OpMul, x(0), x(1))}, api.ErrUnsupported}, {[]api.Expr{num(1 << 41), op(api.OpMul, x(0), x(1))}, api.ErrTooLarge},
+	}
+	for i, c := range operands {
+		for _, literal := range []api.Expr{str("a"), str(""), num(1), null} {
+			bad := with(literal, c.args...)
+			for _, e := range []api.Expr{bad, op(api.OpLength, bad), op(api.OpLength, op(api.OpLength, bad)), op(api.OpNeg, bad), op(api.OpAdd, op(api.OpLength, bad), op(api.OpMul, x(0), x(1))), op(api.OpDiv, x(0), op(api.OpLength, bad))} {
+				if s, err := Of(e); err != c.want || !reflect.DeepEqual(s, api.Term{}) {
+					t.Errorf("operands %d of %s in %v: %v, %d, want %d", i, value.Format(literal.Value), e, s, err, c.want)
+				}
+			}
+		}
+	}
+	for _, empty := range [][]api.Expr{nil, {}} {
+		if s := of(t, op(api.OpLength, with(str("abc"), empty...))); s.Const != 3 || len(s.Parts) != 0 {
+			t.Errorf("LENGTH of a literal text: %v", s)
+		}
+	}
+}
+
 // bigSum is 2^20 times the sum of n columns.
 func bigSum(n int) api.Expr {
 	e := x(0)
